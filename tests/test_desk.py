@@ -1,34 +1,24 @@
 import unittest
 
+from asking import BACK, BEGIN, TOP, asked, drop, find, firsts, joined, many, row, told, view, write
 from viewstable.desk import Desk, UnknownCall, answers, answers_of
 
-TOP = 4294967295
 
-BEGIN = [0]
+class Untouchable(list):
+    """A list that can't be changed, not for a while either."""
 
+    def refuse(self, *given, **named):
+        raise AssertionError("what is handed in was changed")
 
-def view(*numbers):
-    return [1, len(numbers), *numbers]
-
-
-def many(number):
-    return [2, number]
+    __setitem__ = __delitem__ = __iadd__ = __imul__ = refuse
+    append = clear = extend = insert = pop = remove = reverse = sort = refuse
 
 
-def row(number, k):
-    return [3, number, k]
-
-
-def asked(*calls):
-    return answers([number for call in calls for number in call])
-
-
-def firsts(*calls):
-    """The one number that each of these calls answers."""
-    given = asked(*calls)
-    counts, numbers = given[0::2], given[1::2]
-    assert counts == [1] * len(calls) == [1] * len(numbers), given
-    return numbers
+# One call of each kind, answered and refused.
+ALL_KINDS = [
+    BEGIN, view(), view(0, 1, 0, 9, 1, 2, 0, 7), view(3, 0, 0, 0), write(0, 4, 3, 2, 1, 0), write(1, 5, 8, 0, 1, 1),
+    write(1, 5, 9, 0, 1, 1), write(2, 5, 9, 0, 1, 1), many(0), many(2), row(1, 0), row(1, 2), find(1, 5), find(0, 6),
+    drop(1, 4), drop(1, 4), BACK, BACK, BACK, BACK]
 
 
 class Form(unittest.TestCase):
@@ -46,6 +36,36 @@ class Form(unittest.TestCase):
         given = [1, 0, 6, 0, 8, 5, 6, 7, TOP, 1, 2, 6, 0, 3, 1, 2, 3, 4, 1, -2]
         self.assertEqual(answers_of(desk, calls), given)
 
+    def test_the_calls_that_write(self):
+        given = answers([1, 0, 5, 0, 5, 7, 1, 2, 3, 4, 4, 0, 7, 4, 0, 8, 6, 0, 7, 6, 0, 7, 7, 7, 7])
+        self.assertEqual(given, [1, 0, 1, 1, 6, 0, 7, 1, 2, 3, 4, 1, -2, 1, 0, 1, -2, 1, 1, 1, 0, 1, -2])
+
+    def test_all_kinds_of_calls(self):
+        self.assertEqual(told(*ALL_KINDS), [
+            [0], [0], [1], [-22], [1], [1], [-33], [-22], [2], [-22], [0, 4, 3, 0, 1, 0], [-2], [0, 5, 8, 0, 1, 1],
+            [-2], [0], [-2], [2], [1], [0], [-2]])
+
+    def test_nothing_is_changed_for_a_while_either(self):
+        calls = Untouchable(joined(ALL_KINDS))
+        self.assertEqual(answers(calls), asked(*ALL_KINDS))
+        self.assertEqual(list(calls), joined(ALL_KINDS))
+
+    def test_what_is_given_back_is_ones_own(self):
+        calls = joined(ALL_KINDS)
+        given = answers(calls)
+        wanted = list(given)
+        given.clear()
+        self.assertEqual(answers(calls), wanted)
+
+    def test_lists_one_behind_another(self):
+        lists = [[BACK], [view(), many(0), BACK], [view(), write(0, 1, 1, 1, 1, 1), many(0)], ALL_KINDS, [],
+                 [find(0, 4), drop(0, 4), write(0, 4, 0, 0, 0, 0), view(), find(0, 4), drop(0, 4)]]
+        alone = [[[-2]], [[0], [0], [-2]], [[0], [1], [1]], told(*ALL_KINDS), [],
+                 [[-22], [-22], [-22], [0], [-2], [-2]]]
+        for order in (range(6), range(5, -1, -1), (3, 0, 3, 1, 2, 1, 2, 0, 5, 3, 5, 4, 0)):
+            for place in order:
+                self.assertEqual(told(*lists[place]), alone[place], (order, place))
+
     def test_what_is_handed_in_stays_as_it_was(self):
         calls = BEGIN + view(0, 0, 0, 5) + view(3, 0, 0, 5) + many(0) + row(0, 0)
         before = list(calls)
@@ -53,7 +73,7 @@ class Form(unittest.TestCase):
         self.assertEqual(calls, before)
 
     def test_whole_numbers_in_a_list(self):
-        given = asked(BEGIN, view(), view(9, 9, 9, 9), many(0), many(1), row(0, 0), row(1, 0))
+        given = asked(BEGIN, view(9, 9, 9, 9), many(1), row(1, 0), *ALL_KINDS)
         self.assertEqual({type(number) for number in given}, {int})
         self.assertIs(type(given), list)
 
@@ -67,8 +87,9 @@ class Form(unittest.TestCase):
         self.assertEqual(firsts(*[view(*step * 8)] * 200, *[view(*step * 12)] * 200), wanted)
 
     def test_a_number_that_no_call_has(self):
-        with self.assertRaises(UnknownCall):
-            answers([8])
+        for number in (8, 9, TOP):
+            with self.assertRaises(UnknownCall):
+                answers([0, number])
 
 
 class Begin(unittest.TestCase):

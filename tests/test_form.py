@@ -25,6 +25,14 @@ NODES_LEFT_OUT = (
     ast.AsyncFunctionDef, ast.AsyncFor, ast.AsyncWith, ast.Await, ast.SetComp, ast.DictComp, ast.GeneratorExp,
     ast.NamedExpr, ast.Starred, ast.Div)
 
+METHODS_OF_PYTHON = set(
+    "append clear copy count endswith extend find get index insert isalnum isalpha isdigit islower isspace isupper "
+    "items join keys ljust lower lstrip partition pop remove replace reverse rfind rjust rpartition rsplit rstrip "
+    "setdefault split splitlines startswith strip update upper values zfill bit_length".split())
+
+WALKED_AT_ONCE = ("zip", "enumerate", "reversed", "range")
+WALKERS = ("list", "tuple", "dict", "sorted", "sum", "any", "all", "enumerate", "zip", "min", "max")
+
 
 def files():
     return sorted(PACKAGE.rglob("*.py"))
@@ -34,6 +42,13 @@ def nodes():
     for file in files():
         for node in ast.walk(ast.parse(file.read_text(encoding="ascii"))):
             yield f"{file.name}:{getattr(node, 'lineno', '')}", node
+
+
+def called(node):
+    """The plain name that is called here, or None."""
+    if isinstance(node, ast.Call) and isinstance(node.func, ast.Name):
+        return node.func.id
+    return None
 
 
 class FormOfThePackage(unittest.TestCase):
@@ -58,12 +73,44 @@ class FormOfThePackage(unittest.TestCase):
                 self.assertLessEqual(node.end_lineno - node.lineno + 1, 40, place)
                 self.assertEqual(node.decorator_list, [], place)
                 self.assertIsNone(node.args.vararg or node.args.kwarg, place)
+                self.assertEqual(node.args.kwonlyargs + node.args.posonlyargs, [], place)
 
     def test_imports_are_the_packages_own(self):
         for place, node in nodes():
             if isinstance(node, ast.ImportFrom):
                 self.assertEqual(node.level, 0, place)
                 self.assertRegex(node.module, r"\Aviewstable\.[a-z0-9_]+\Z", place)
+
+    def test_loops_and_tries_are_plain(self):
+        for place, node in nodes():
+            if isinstance(node, (ast.For, ast.While)):
+                self.assertEqual(node.orelse, [], place)
+            if isinstance(node, ast.Try):
+                self.assertEqual(node.finalbody, [], place)
+            if isinstance(node, ast.ExceptHandler):
+                self.assertIsInstance(node.type, ast.Name, place)
+                self.assertNotIn(node.type.id, ("Exception", "TypeError"), place)
+
+    def test_methods_are_own_ones_or_listed(self):
+        own = {node.name for place, node in nodes() if isinstance(node, ast.FunctionDef)}
+        for place, node in nodes():
+            if isinstance(node, ast.Call) and isinstance(node.func, ast.Attribute):
+                self.assertIn(node.func.attr, own | METHODS_OF_PYTHON, place)
+
+    def test_no_name_is_a_method_and_a_value(self):
+        methods = {part.name for place, node in nodes() if isinstance(node, ast.ClassDef)
+                   for part in node.body if isinstance(part, ast.FunctionDef)}
+        values = {node.attr for place, node in nodes()
+                  if isinstance(node, ast.Attribute) and isinstance(node.ctx, ast.Store)}
+        self.assertEqual(methods & values, set())
+
+    def test_walks_are_walked_on_the_spot(self):
+        walked = [node.iter for place, node in nodes() if isinstance(node, (ast.For, ast.comprehension))]
+        walked += [node.args[0] for place, node in nodes() if called(node) in WALKERS and node.args]
+        places = {ast.dump(node, include_attributes=True) for node in walked}
+        for place, node in nodes():
+            if called(node) in WALKED_AT_ONCE:
+                self.assertIn(ast.dump(node, include_attributes=True), places, place)
 
     def test_nothing_left_out_is_used(self):
         for place, node in nodes():

@@ -1,30 +1,15 @@
 import unittest
 
+from asking import LESS, MORE, OTHER, SAME, TOP, hide, joined, keep, shift
 from viewstable.views import is_view, shown, steps_of
-
-TOP = 4294967295
-
-LESS, SAME, MORE, OTHER = 0, 1, 2, 3
-
-
-def keep(col, how, value):
-    return [0, col, how, value]
-
-
-def hide(col, value=0):
-    return [1, col, 0, value]
-
-
-def shift(col, value):
-    return [2, col, 0, value]
 
 
 def look(rows, *steps):
-    return shown(rows, steps_of([number for step in steps for number in step]))
+    return shown(rows, steps_of(joined(steps)))
 
 
 def told(*steps):
-    return is_view(steps_of([number for step in steps for number in step]))
+    return is_view(steps_of(joined(steps)))
 
 
 # In every column the three rows are below, at and above 20, in another order each.

@@ -1,18 +1,31 @@
-"""The desk: one table, the views on it, and the calls that are asked of it."""
+"""The desk: one table, the views on it, its last changes, and the calls that are asked of it."""
 
-from viewstable.views import is_view, shown, steps_of
+from viewstable.views import KeyTaken, NotShowable
+from viewstable.views import by_key, is_view, shown, steps_of, with_row, without_key, written_back
 
 BEGIN = 0
 VIEW = 1
 MANY = 2
 ROW = 3
+FIND = 4
+WRITE = 5
+DROP = 6
+BACK = 7
 
 # The refusals' numbers.
 ABSENT = -2
+TAKEN = -17
 INVALID = -22
 FULL = -28
+UNSHOWABLE = -33
+
+# What write answers where it isn't refused.
+ADDED = 1
+REPLACED = 2
 
 MOST_VIEWS = 16
+MOST_ROWS = 256
+MOST_CHANGES = 32
 
 
 class UnknownCall(ValueError):
@@ -23,10 +36,12 @@ class Desk:
     def __init__(self):
         self.rows = []
         self.views = []
+        self.changes = []
 
     def begin(self):
         self.rows = []
         self.views = []
+        self.changes = []
         return [0]
 
     def view(self, numbers):
@@ -58,13 +73,64 @@ class Desk:
             return [ABSENT]
         return [0] + list(seen[k])
 
+    def find(self, view_number, key):
+        if not self.has_view(view_number):
+            return [INVALID]
+        seen = by_key(self.rows_through(view_number))
+        if key not in seen:
+            return [ABSENT]
+        return [0] + list(seen[key])
+
+    def change_to(self, rows):
+        if rows == self.rows:
+            return
+        # The table is replaced, never changed in place: what is kept here stays what it was.
+        self.changes.append(self.rows)
+        if len(self.changes) > MOST_CHANGES:
+            self.changes.pop(0)
+        self.rows = rows
+
+    def write(self, view_number, row):
+        if not self.has_view(view_number):
+            return [INVALID]
+        seen = self.rows_through(view_number)
+        try:
+            rows = written_back(self.rows, self.views[view_number], with_row(seen, row))
+        except NotShowable:
+            return [UNSHOWABLE]
+        except KeyTaken:
+            return [TAKEN]
+        # A view never shows more rows than the table has: this holds for what would be shown, too.
+        if len(rows) > MOST_ROWS:
+            return [FULL]
+        self.change_to(rows)
+        return [REPLACED if row[0] in by_key(seen) else ADDED]
+
+    def drop(self, view_number, key):
+        if not self.has_view(view_number):
+            return [INVALID]
+        seen = self.rows_through(view_number)
+        if key not in by_key(seen):
+            return [ABSENT]
+        self.change_to(written_back(self.rows, self.views[view_number], without_key(seen, key)))
+        return [0]
+
+    def back(self):
+        if len(self.changes) == 0:
+            return [ABSENT]
+        self.rows = self.changes.pop()
+        return [len(self.changes)]
+
 
 def length_of_call(calls, place):
-    if calls[place] == VIEW:
+    number = calls[place]
+    if number == VIEW:
         return 2 + calls[place + 1]
-    if calls[place] == MANY:
+    if number == WRITE:
+        return 3 + calls[place + 2]
+    if number == MANY:
         return 2
-    if calls[place] == ROW:
+    if number in (ROW, FIND, DROP):
         return 3
     return 1
 
@@ -79,6 +145,14 @@ def answer_of(desk, call):
         return desk.many(call[1])
     if number == ROW:
         return desk.row(call[1], call[2])
+    if number == FIND:
+        return desk.find(call[1], call[2])
+    if number == WRITE:
+        return desk.write(call[1], tuple(call[3:]))
+    if number == DROP:
+        return desk.drop(call[1], call[2])
+    if number == BACK:
+        return desk.back()
     # Going on would take the call's own numbers for calls.
     raise UnknownCall(f"no call has the number {number}")
 
